@@ -281,6 +281,14 @@ func none(v reflect.Value, loose bool) (is, clean bool) {
 	return false, true
 }
 
+func isError(v reflect.Value) bool {
+	switch v.Interface().(type) {
+	case api.Errno, api.Fault, api.Failure:
+		return true
+	}
+	return false
+}
+
 // beside tells what stands in a result beside an error, a fault, a failure, or a false.
 func beside(out []reflect.Value, loose bool) string {
 	for i, v := range out {
@@ -292,7 +300,8 @@ func beside(out []reflect.Value, loose bool) string {
 			continue
 		}
 		for k, other := range out {
-			if k != i && !empty(other) {
+			_, toldBy := v.Interface().(bool)
+			if k != i && !empty(other) && !(toldBy && isError(other)) {
 				return "a result beside " + text(v, false)
 			}
 		}
