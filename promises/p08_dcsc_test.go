@@ -43,6 +43,7 @@ func badColumns() []api.Columns {
 		func(c *api.Columns) { c.Start = nil }, func(c *api.Columns) { c.Start = c.Start[:2] }, func(c *api.Columns) { c.Start[0] = 1 }, func(c *api.Columns) { c.Start[0] = -1 }, func(c *api.Columns) { c.Start[1] = 0 }, func(c *api.Columns) { c.Start[1] = 3 }, func(c *api.Columns) { c.Start[1] = 4 }, func(c *api.Columns) { c.Start[1] = -1 }, func(c *api.Columns) { c.Start[2] = 4 },
 		func(c *api.Columns) { c.Row = c.Row[:2] }, func(c *api.Columns) { c.Val = c.Val[:2] }, func(c *api.Columns) { c.Val = append(c.Val, 1) }, func(c *api.Columns) { c.Row = append(c.Row, 3) },
 		func(c *api.Columns) { c.Row[0] = 2 }, func(c *api.Columns) { c.Row[0] = -1 }, func(c *api.Columns) { c.Row[2] = 4 }, func(c *api.Columns) { c.Row[1] = 4 },
+		func(c *api.Columns) { c.Start = []int{0, 1, 2} }, func(c *api.Columns) { c.Start, c.Row = []int{0, 0, 3}, []int{0, 1, 2} },
 	} {
 		c := good()
 		f(&c)
