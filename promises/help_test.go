@@ -201,7 +201,30 @@ func text(v reflect.Value, room bool) string {
 
 // same tells whether two values are alike, a nil list being an empty one.
 func same[T any](a, b T) bool {
-	return text(reflect.ValueOf(&a).Elem(), false) == text(reflect.ValueOf(&b).Elem(), false)
+	return alike(reflect.ValueOf(&a).Elem(), reflect.ValueOf(&b).Elem())
+}
+
+func alike(a, b reflect.Value) bool {
+	switch a.Kind() {
+	case reflect.Struct:
+		for i := 0; i < a.NumField(); i++ {
+			if !alike(a.Field(i), b.Field(i)) {
+				return false
+			}
+		}
+		return true
+	case reflect.Slice, reflect.Array:
+		if a.Len() != b.Len() {
+			return false
+		}
+		for i := 0; i < a.Len(); i++ {
+			if !alike(a.Index(i), b.Index(i)) {
+				return false
+			}
+		}
+		return true
+	}
+	return a.Equal(b)
 }
 
 // span is memory that a list takes, with its spare room.
