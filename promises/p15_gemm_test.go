@@ -148,6 +148,12 @@ func TestP15_2(t *testing.T) {
 		want(t, "Done of what does not rise", e, api.ErrOrder)
 		_, e = gemm.Done(1, 1, 1, bad)
 		want(t, "a place ahead of the order", e, api.ErrRange)
+		for _, n := range []int{4097, math.MaxInt} {
+			_, e = gemm.Done(1, n, 9, bad)
+			want(t, "too many rows ahead of the order", e, api.ErrRange)
+			_, e = gemm.Done(1, 9, n, bad)
+			want(t, "too many columns ahead of the order", e, api.ErrRange)
+		}
 		_, e = gemm.Done(0, 1, 1, bad)
 		want(t, "no ring ahead of all", e, api.ErrKind)
 	}
@@ -235,6 +241,9 @@ func TestP15_2_done(t *testing.T) {
 		want(t, "Total of what can't be", n, api.Inf)
 		want(t, "Total of what can't be", e, api.OK)
 	}
+	over, e := gemm.Total(api.PlusTimes, rowsOf(1, 2, []api.Triple{{Val: math.MaxInt64}, {Col: 1, Val: 1}}))
+	want(t, "a total that is over", e, api.ErrOver)
+	want(t, "nothing beside it", over, 0)
 	n, _ := gemm.Total(api.OrAnd, rowsOf(1, 1, []api.Triple{{Val: 7}}))
 	want(t, "a lone one stays", n, 7)
 }
