@@ -27,6 +27,7 @@ func blocksOf(m api.Rows, r, c int) []api.Rows {
 
 func TestP18_1(t *testing.T) {
 	d := &dice{}
+	bad := badMatrices()
 	for n := 0; n < 400; n++ {
 		m := d.matrix()
 		r, c := d.between(1, 8), d.between(1, 8)
@@ -51,7 +52,7 @@ func TestP18_1(t *testing.T) {
 		at := d.below(len(l))
 		spoilt[at].Rows++
 		spoilt[at].Start = append(slices.Clone(spoilt[at].Start), len(spoilt[at].Col))
-		for _, wrong := range [][]api.Rows{l[1:], append(slices.Clone(l), noMatrix), nil, spoilt, append(slices.Clone(l[1:]), badMatrices()[0])} {
+		for _, wrong := range [][]api.Rows{l[1:], append(slices.Clone(l), noMatrix), nil, spoilt, append(slices.Clone(l[1:]), bad[0])} {
 			got, e = block.Join(m.Rows, m.Cols, r, c, wrong)
 			want(t, "Join's error", e, api.ErrSize)
 			want(t, "nothing beside it", got, api.Rows{})
@@ -61,7 +62,7 @@ func TestP18_1(t *testing.T) {
 		_, e = block.Join(m.Rows, m.Cols, r, c, spoilt)
 		want(t, "Join's error", e, api.ErrSize)
 	}
-	for _, m := range badMatrices() {
+	for _, m := range bad {
 		want(t, "Cut of what can't be", block.Cut(m, 1, 1, 0, 0), noMatrix)
 	}
 	_, e := block.Join(0, 0, 1, 1, []api.Rows{{}})
