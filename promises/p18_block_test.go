@@ -153,6 +153,18 @@ func TestP18_2_wrong(t *testing.T) {
 	want(t, "Slice of no column", block.Slice(v, 4, 1, 1, 0, 1), api.Vec{})
 	want(t, "Slice of no column", block.Slice(v, 4, 1, 1, 0, -1), api.Vec{})
 	want(t, "Slice of all", block.Slice(v, 4, 1, 1, 0, 0), v)
+	most := spvec.Fill(4096, 1)
+	for name, f := range map[string]func() (api.Vec, api.Errno){
+		"Glue": func() (api.Vec, api.Errno) { return block.Glue(4096, 1, []api.Vec{most}) }, "Fit": func() (api.Vec, api.Errno) { return block.Fit(4096, 1, 1, 0, []api.Vec{most}) },
+		"Piece": func() (api.Vec, api.Errno) { return block.Piece(most, 1, 0), api.OK }, "Slice": func() (api.Vec, api.Errno) { return block.Slice(most, 4096, 1, 1, 0, 0), api.OK },
+	} {
+		got, e := f()
+		want(t, name+" of as many as there may be", got, most)
+		want(t, name+" of as many as there may be", e, api.OK)
+	}
+	m, e := block.Join(4096, 4096, 1, 1, []api.Rows{{Rows: 4096, Cols: 4096, Start: make([]int, 4097)}})
+	want(t, "Join of as many as there may be", m.Rows, 4096)
+	want(t, "Join of as many as there may be", e, api.OK)
 	for _, j := range []int{-1, 2, math.MaxInt, math.MinInt} {
 		_, e := block.Fit(4, 1, 2, j, []api.Vec{v})
 		want(t, "Fit's error", e, api.ErrRange)
