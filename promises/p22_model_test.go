@@ -161,6 +161,12 @@ func TestP22_1(t *testing.T) {
 			want(t, "nothing beside it", l, nil)
 		}
 	}
+	for i, s := range badStates() {
+		_, e := model.Step(api.Plan{Kind: api.Labels}, noMatrix, s, 1)
+		if e != api.ErrSize {
+			t.Errorf("Step of the bad state %d: %d", i, e)
+		}
+	}
 	got, e := model.Step(api.Plan{Kind: api.Labels}, badMatrices()[0], api.State{}, 1)
 	want(t, "Step of no vertices", got, api.State{})
 	want(t, "Step of no vertices", e, api.OK)
