@@ -103,8 +103,8 @@ type mirror struct {
 	sharesFrom, gathersFrom, votesFrom map[int]bool
 }
 
-// play is a grid that the test runs, and what should come of it.
-type play struct {
+// theatre is a grid that the test runs, and what should come of it.
+type theatre struct {
 	t      *testing.T
 	s      api.Setup
 	trace  []api.State
@@ -116,8 +116,8 @@ type play struct {
 	seen   map[string]int
 }
 
-func newPlay(t *testing.T, s api.Setup) *play {
-	p := &play{t: t, s: s, ways: map[[2]int][]api.Frame{}, seen: map[string]int{}}
+func newTheatre(t *testing.T, s api.Setup) *theatre {
+	p := &theatre{t: t, s: s, ways: map[[2]int][]api.Frame{}, seen: map[string]int{}}
 	p.result, p.trace = runOf(s.Plan, s.Graph, s.Limit)
 	p.m, _ = prog.Matrix(s.Plan, s.Graph)
 	for i := range s.R {
@@ -134,7 +134,7 @@ func newPlay(t *testing.T, s api.Setup) *play {
 }
 
 // waits tells whether a worker should wait for a frame.
-func (p *play) waits(k int, f api.Frame) bool {
+func (p *theatre) waits(k int, f api.Frame) bool {
 	x, s := p.mirror[k], p.s
 	n := s.Plan.N
 	if f.To != k || f.From < 0 || f.From >= s.R*s.C {
@@ -165,7 +165,7 @@ func (p *play) waits(k int, f api.Frame) bool {
 }
 
 // told is how a run should stand behind a superstep.
-func (p *play) told(round int) api.Status {
+func (p *theatre) told(round int) api.Status {
 	if round >= p.result.Rounds && p.result.Status != api.Overflow || round > p.result.Rounds {
 		return p.result.Status
 	}
@@ -178,7 +178,7 @@ func partOf(s api.State, at [2]int) api.State {
 }
 
 // right is the frame that a worker should send, by the kind, the round, and to whom.
-func (p *play) right(f api.Frame) api.Frame {
+func (p *theatre) right(f api.Frame) api.Frame {
 	s, n := p.s, p.s.Plan.N
 	i, j := f.From/s.C, f.From%s.C
 	out := api.Frame{Kind: f.Kind, From: f.From, To: f.To, Round: f.Round}
@@ -222,7 +222,7 @@ func rowsCut(m api.Rows, rows, cols [2]int) api.Rows {
 }
 
 // heard notes what a worker heard, and tells which frames it should send for it: their kind, round, and to whom.
-func (p *play) heard(k int, f api.Frame) [][3]int {
+func (p *theatre) heard(k int, f api.Frame) [][3]int {
 	x, s := p.mirror[k], p.s
 	var out [][3]int
 	switch f.Kind {
@@ -280,7 +280,7 @@ func look(w *worker.Worker) string {
 }
 
 // send lets a worker send, and holds the frame against what it should be.
-func (p *play) send(k int) bool {
+func (p *theatre) send(k int) bool {
 	f, ok := p.w[k].Next()
 	if !ok {
 		want(p.t, "nothing beside a false", f, api.Frame{})
@@ -288,6 +288,10 @@ func (p *play) send(k int) bool {
 	}
 	again, _ := p.w[k].Next()
 	want(p.t, "Next again", again, f)
+	scribble(reflect.ValueOf(again.Vec.Items))
+	scribble(reflect.ValueOf(again.Sums))
+	again, _ = p.w[k].Next()
+	want(p.t, "what is told is the caller's", again, f)
 	want(p.t, "what is sent", f, p.right(f))
 	left := p.w[k].Left()
 	p.w[k].Gone()
@@ -298,7 +302,7 @@ func (p *play) send(k int) bool {
 }
 
 // hand hands the next frame of a way over.
-func (p *play) hand(way [2]int) {
+func (p *theatre) hand(way [2]int) {
 	f := p.ways[way][0]
 	p.ways[way] = p.ways[way][1:]
 	k := way[1]
@@ -319,7 +323,7 @@ func (p *play) hand(way [2]int) {
 }
 
 // check holds what a worker tells against what it should be.
-func (p *play) check(k int) {
+func (p *theatre) check(k int) {
 	x, n := p.mirror[k], p.s.Plan.N
 	w := p.w[k]
 	round, status, state := 0, api.Going, api.State{}
@@ -340,7 +344,7 @@ func (p *play) check(k int) {
 }
 
 // disturb lets a worker hear what it does not wait for.
-func (p *play) disturb(d *dice) {
+func (p *theatre) disturb(d *dice) {
 	k := d.below(len(p.w))
 	f := d.frame()
 	if len(p.ways) > 0 && d.below(3) > 0 {
@@ -380,7 +384,7 @@ func (p *play) disturb(d *dice) {
 }
 
 // busy is the ways on which there are frames, in order.
-func (p *play) busy() [][2]int {
+func (p *theatre) busy() [][2]int {
 	var ways [][2]int
 	for way, l := range p.ways {
 		if len(l) > 0 {
@@ -392,7 +396,7 @@ func (p *play) busy() [][2]int {
 }
 
 // run goes on until all is done, in an order that is thrown.
-func (p *play) run(d *dice, troubled bool) {
+func (p *theatre) run(d *dice, troubled bool) {
 	for steps := 0; ; steps++ {
 		if steps > 200000 {
 			p.t.Fatal("it does not end")
@@ -420,7 +424,7 @@ func (p *play) run(d *dice, troubled bool) {
 }
 
 // ended holds the end of a run against the model's.
-func (p *play) ended() {
+func (p *theatre) ended() {
 	var all []one
 	for k, w := range p.w {
 		want(p.t, "nothing is left", w.Left() == 0 && w.Stored() == 0, true)
@@ -441,13 +445,24 @@ func TestP23_2(t *testing.T) {
 	seen := map[api.Status]int{}
 	for i := 0; i < 60; i++ {
 		for _, k := range allKinds {
-			p := newPlay(t, d.setup(k))
+			p := newTheatre(t, d.setup(k))
 			p.run(d, false)
 			p.ended()
 			seen[p.result.Status]++
 		}
 	}
 	want(t, "all statuses", seen[api.Done] > 10 && seen[api.Limit] > 10 && seen[api.Overflow] > 2, true)
+	for _, k := range []api.ProgKind{api.Levels, api.Indep} {
+		s := d.setup(k)
+		s.Graph = api.Graph{N: 300}
+		for n := 0; n < 500; n++ {
+			s.Graph.Edges = append(s.Graph.Edges, d.edge(300, 3))
+		}
+		s.Plan.N, s.R, s.C, s.Limit = 300, 2, 2, 30
+		p := newTheatre(t, s)
+		p.run(d, false)
+		p.ended()
+	}
 	w, _ := worker.New(api.Setup{Plan: api.Plan{Kind: api.Labels, N: 2}, Graph: path(2), R: 1, C: 1, Room: 1}, 0, 0)
 	f, ok := w.Next()
 	want(t, "the first frame", f, api.Frame{Kind: api.Vote, N: 2})
@@ -558,11 +573,18 @@ func TestP23_3(t *testing.T) {
 	none.Gone()
 	f, ok := none.Next()
 	want(t, "Next of a nil worker", f, api.Frame{})
+	want(t, "Hear of a nil worker", none.Hear(api.Frame{Kind: api.Vote, To: -1}), false)
 	if ok || none.Left() != 0 || none.Hear(api.Frame{Kind: api.Vote}) || none.Number() != -1 || none.Round() != 0 || none.Status() != api.Going || none.Stored() != 0 || !same(none.State(), api.State{}) {
 		t.Error("a nil worker has nothing")
 	}
+	draws := api.Setup{Plan: api.Plan{Kind: api.Indep, N: 2, Draws: []int64{5, 6}}, Graph: path(2), R: 1, C: 1, Room: 1, Limit: 9}
+	w, _ := worker.New(draws, 0, 0)
+	queue(w)
+	scribble(reflect.ValueOf(draws.Plan.Draws))
+	w.Hear(api.Frame{Kind: api.Order})
+	want(t, "a plan's draws are not kept", queue(w), []api.Frame{{Kind: api.Share, Round: 1, Vec: api.Vec{N: 2, Items: []api.Item{{At: 0, Val: 5 * 4096}, {At: 1, Val: 6*4096 + 1}}}}})
 	s := api.Setup{Plan: api.Plan{Kind: api.Labels, N: 5}, Graph: circle(5), R: 2, C: 2, Room: 1, Limit: 9}
-	w, _ := worker.New(s, 0, 0)
+	w, _ = worker.New(s, 0, 0)
 	queue(w)
 	w.Gone()
 	want(t, "Gone of nothing", w.Left(), 0)
@@ -589,7 +611,7 @@ func TestP23_4(t *testing.T) {
 		s := d.setup(api.Labels)
 		s.Graph = steep(9)
 		s.Plan.N, s.Limit = 9, 30
-		p := newPlay(t, s)
+		p := newTheatre(t, s)
 		p.run(d, false)
 		p.ended()
 	}
@@ -599,7 +621,7 @@ func TestP23_5(t *testing.T) {
 	d := &dice{state: 5}
 	for i := 0; i < 30; i++ {
 		for _, k := range allKinds {
-			p := newPlay(t, d.setup(k))
+			p := newTheatre(t, d.setup(k))
 			p.run(d, true)
 			p.ended()
 		}

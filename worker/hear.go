@@ -71,11 +71,11 @@ func (w *Worker) piece(v api.Vec) bool {
 	return spvec.Right(v) && v.N == part.Size(w.plan.N, w.c, w.col)
 }
 
-// gathers tells whether a Gather is of the superstep it is in, the first one of its sender, and lies within its rows.
+// gathers tells whether a Gather is of the superstep it is in, the first one of its sender, and lies within its rows. At first, and once it does not go on, the worker has voted.
 func (w *Worker) gathers(f api.Frame) bool {
 	o := w.owned
 	_, is := o.gathered[f.From]
-	if o.status != api.Going || o.step < 1 || f.Round != o.step || o.voted || is {
+	if f.Round != o.step || o.voted || is {
 		return false
 	}
 	last := -1
@@ -210,7 +210,6 @@ func (w *Worker) hearOrder(f api.Frame) {
 			o.state = *o.aside
 		}
 	}
-	o.aside = nil
 	if o.status == api.Going {
 		o.step++
 		o.voted = false
