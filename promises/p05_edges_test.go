@@ -28,7 +28,7 @@ func (d *dice) graph(most, many int) api.Graph {
 	return g
 }
 
-// ring0 is a graph of n vertices in a circle.
+// circle is a graph of n vertices in a circle.
 func circle(n int) api.Graph {
 	g := api.Graph{N: n}
 	for i := range n {

@@ -69,7 +69,7 @@ func TestP18_1(t *testing.T) {
 	want(t, "a block that can't be", e, api.ErrSize)
 }
 
-// slicesAt is where a slice begins and ends.
+// sliceAt is where a slice begins and ends.
 func sliceAt(n, r, c, i, j int) [2]int {
 	a, b := cutAt(n, r, i), cutAt(n, c, j)
 	from, to := max(a[0], b[0]), min(a[1], b[1])

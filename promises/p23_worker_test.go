@@ -172,7 +172,7 @@ func (p *theatre) told(round int) api.Status {
 	return api.Going
 }
 
-// part is the part of a state from one vertex on, up to another one.
+// partOf is the part of a state from one vertex on, up to another one.
 func partOf(s api.State, at [2]int) api.State {
 	return stateOf(at[0], ones(s)[at[0]:at[1]])
 }

@@ -65,23 +65,14 @@ func TestP24_1(t *testing.T) {
 }
 
 func TestP24_1_room(t *testing.T) {
-	s := tiny()
-	s.Plan.N, s.Graph, s.R, s.C, s.Room = 6, circle(6), 1, 2, 1
-	g := newGrid(t, s)
-	for range 4 {
-		g.Window()
-	}
-	// The owner of the row has three frames to send to itself, or to the other worker, more than there is room.
-	for g.Pick(0) {
-	}
-	k := 0
-	for k < 2 && g.Len(0, k) < 1 {
-		k++
-	}
-	want(t, "a full box", g.Len(0, k), 1)
+	g := newGrid(t, tiny())
+	want(t, "a Vote, twice", g.Pick(0) && g.Double(0, 0, 0) == api.OK, true)
+	want(t, "it is handed over, and the other one doubled", g.Deliver(0, 0, 0) && g.Double(0, 0, 0) == api.OK, true)
 	want(t, "no room", g.Pick(0), false)
-	want(t, "no room", g.Len(0, k), 1)
-	want(t, "what is full loses nothing", g.Deliver(0, k, 0), true)
+	want(t, "no room", [2]int{g.Len(0, 0), g.Sent()}, [2]int{2, 1})
+	want(t, "what was handed over", g.Deliver(0, 0, 1), false)
+	want(t, "what is full loses nothing", g.Pick(0) && g.Deliver(0, 0, 1), true)
+	want(t, "an Order, and a Share", g.Pick(0) && g.Sent() == 3, true)
 }
 
 func TestP24_2(t *testing.T) {
