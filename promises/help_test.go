@@ -397,3 +397,5 @@ func want[T any](t *testing.T, what string, got, right T) {
 		t.Errorf("%s: %+v, not %+v", what, got, right)
 	}
 }
+
+func typeOf[T any]() reflect.Type { return reflect.TypeFor[T]() }
