@@ -2,6 +2,7 @@ package promises
 
 import (
 	"math"
+	"reflect"
 	"slices"
 	"testing"
 
@@ -340,6 +341,22 @@ func TestP26_4(t *testing.T) {
 			}
 			want(t, "what is told is the caller's", x.Cells(), right)
 		}
+	}
+}
+
+func TestP26_4_own(t *testing.T) {
+	d := &dice{state: 9}
+	for i := 0; i < 60; i++ {
+		p := d.product(allRings[d.below(5)])
+		right, _ := gemm.Cells(p.Ring, p.A, p.B, p.Mask)
+		x := newMachine(t, p)
+		for _, m := range []api.Rows{p.A, p.B, p.Mask} {
+			scribble(reflect.ValueOf(m))
+		}
+		for range 300 {
+			x.Do(api.Move{Kind: api.Fair})
+		}
+		want(t, "a product is not kept", x.Cells(), right)
 	}
 }
 
