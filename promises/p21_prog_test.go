@@ -331,7 +331,6 @@ func TestP21_2_wrong(t *testing.T) {
 				t.Errorf("the bad state %d has something", i)
 			}
 			want(t, "Update of what can't be", prog.Update(p, s, 1, api.Vec{N: 2}), api.State{})
-			want(t, "Same of what can't be", prog.Same(s, api.State{}), true)
 		}
 		p.N = 2
 		above := stateOf(2, []one{{0, 0, true}})

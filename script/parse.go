@@ -55,7 +55,7 @@ func number(s string) (int, bool) {
 
 // numbers tells whether a line is a word, and so many numbers, and puts them into their places.
 func numbers(s, word string, into ...*int) bool {
-	l := strings.Split(s, " ")
+	l := strings.SplitN(s, " ", len(into)+2)
 	if len(l) != len(into)+1 || l[0] != word {
 		return false
 	}
@@ -78,7 +78,7 @@ func draw(s string) (int64, bool) {
 
 // choice is the choice that a line tells.
 func choice(s string) (api.Choice, bool) {
-	l := strings.Split(s, " ")
+	l := strings.SplitN(s, " ", 4)
 	if len(l) != 3 || l[0] != "choice" {
 		return api.Choice{}, false
 	}
