@@ -148,7 +148,7 @@ func TestP33_1_faults(t *testing.T) {
 		}
 	}
 	for at, lines := range map[int][]string{
-		5: {"draw", "draw -1", "draw 07", "draw 1 2", "draw 2147483648", "choice any any"}, 7: {"choice", "choice any", "choice push full full", "choice Push full", "choice full push", "choice any none", "choice  any any", "choice 1 1", "choice  ", "choice any "},
+		5: {"draw", "draw -1", "draw 07", "draw 1 2", "draw 2147483648", "choice any any"}, 7: {"chose push full", "windows any any", "choice", "choice any", "choice push full full", "choice Push full", "choice full push", "choice any none", "choice  any any", "choice 1 1", "choice  ", "choice any "},
 		8: {"send", "send 64", "send 9 0 0", "send 09", "Send 9", "sent 9"}, 9: {"hand 10 11", "hand 10 11 64", "hand 64 1 1", "hand 1 64 1", "hand 1 1 1 1", "twice", "last 1 2 3 ", "hand 1 2 x"}, 10: {"fair 0", "fair ", "fairs", ""}, 11: {"windows", "windows 1 2", "windows 013", "windows -1", "Windows 1", "window 1"},
 	} {
 		for _, s := range lines {
