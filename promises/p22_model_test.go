@@ -127,7 +127,7 @@ func TestP22_1(t *testing.T) {
 			for _, c := range []struct {
 				m api.Rows
 				s api.State
-			}{{small, s}, {csr.Turn(small), s}, {badMatrixOf(p.N), s}, {m, d.someState(1, p.N)}, {m, d.someState(0, p.N-1)}, {m, api.State{}}, {m, api.State{High: p.N, A: s.A, B: s.B}}, {m, api.State{High: p.N, A: s.A[1:], B: s.B, On: s.On}}, {m, api.State{High: p.N, A: s.A, B: s.B[1:], On: s.On}}} {
+			}{{small, s}, {csr.Turn(small), s}, {badMatrixOf(p.N), s}, {m, d.someState(1, p.N)}, {m, d.someState(0, p.N-1)}, {m, api.State{}}, {m, api.State{High: p.N, A: s.A, B: s.B}}, {m, api.State{Low: 1, High: p.N, A: s.A, B: s.B, On: s.On}}, {m, api.State{Low: 1, High: p.N + 1, A: s.A, B: s.B, On: s.On}}, {m, api.State{High: p.N + 1, A: s.A, B: s.B, On: s.On}}, {m, api.State{High: p.N, A: s.A[1:], B: s.B, On: s.On}}, {m, api.State{High: p.N, A: s.A, B: s.B[1:], On: s.On}}} {
 				got, e = model.Step(p, c.m, c.s, round)
 				want(t, "Step's error", e, api.ErrSize)
 				want(t, "nothing beside it", got, api.State{})

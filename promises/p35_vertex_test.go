@@ -39,7 +39,7 @@ func TestP35_1(t *testing.T) {
 			mail, e := vertex.Mail(p, l, s, round)
 			want(t, "Mail", mail, mailOf(p, l, s, round))
 			want(t, "its error", e, api.OK)
-			for _, bad := range []api.State{d.someState(1, p.N), d.someState(0, p.N-1), {}, {High: p.N, A: s.A, B: s.B}, {High: p.N, A: s.A[1:], B: s.B, On: s.On}, {High: p.N, A: s.A, B: s.B[1:], On: s.On}, {High: p.N, A: s.A, B: s.B, On: append(slices.Clone(s.On), 0)}} {
+			for _, bad := range []api.State{d.someState(1, p.N), d.someState(0, p.N-1), {}, {High: p.N, A: s.A, B: s.B}, {High: p.N, A: s.A[1:], B: s.B, On: s.On}, {High: p.N, A: s.A, B: s.B[1:], On: s.On}, {High: p.N, A: s.A, B: s.B, On: append(slices.Clone(s.On), 0)}, {Low: 1, High: p.N, A: s.A, B: s.B, On: s.On}, {Low: -1, High: p.N, A: s.A, B: s.B, On: s.On}, {High: p.N + 1, A: s.A, B: s.B, On: s.On}, {Low: 1, High: p.N + 1, A: s.A, B: s.B, On: s.On}} {
 				mail, e = vertex.Mail(p, []api.Edge{{From: -1}}, bad, round)
 				want(t, "Mail's error", e, api.ErrSize)
 				want(t, "nothing beside it", mail, nil)
