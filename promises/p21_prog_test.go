@@ -362,7 +362,7 @@ func TestP21_3(t *testing.T) {
 			want(t, "Same", prog.Same(s, stateOf(s.Low, ones(s))), true)
 			if high > low {
 				for i, change := range []func(s *api.State){
-					func(s *api.State) { s.Low++; s.High++ }, func(s *api.State) { s.A[0]++ }, func(s *api.State) { s.B[0]++ }, func(s *api.State) { s.On[0] ^= 1 }, func(s *api.State) { *s = api.State{} },
+					func(s *api.State) { s.Low++; s.High++ }, func(s *api.State) { s.Low-- }, func(s *api.State) { s.High++ }, func(s *api.State) { s.A[0]++ }, func(s *api.State) { s.B[0]++ }, func(s *api.State) { s.On[0] ^= 1 }, func(s *api.State) { *s = api.State{} },
 					func(s *api.State) {
 						s.High--
 						s.A, s.B = s.A[1:], s.B[1:]
